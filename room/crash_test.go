@@ -4,6 +4,7 @@ import (
 	"fmt"
 	"math"
 	"math/rand"
+	"slices"
 	"strings"
 	"testing"
 
@@ -41,7 +42,21 @@ func TestP10AStoreWhoseDiskDiesIsDown(t *testing.T) {
 			isDown(t, s, n)
 			d.Fuse(-1)
 			isDown(t, s, n)
+			staysDown(t, d, s, n)
 		}
+	}
+}
+
+// staysDown holds that a store that is down leaves the disk alone, even one
+// that could be written to again.
+func staysDown(t *testing.T, d *room.Disk, s *room.Store, n notes) {
+	t.Helper()
+	d.Crash(nil)
+	before := sectors(t, d)
+	d.Fuse(0)
+	isDown(t, s, n)
+	if !slices.Equal(sectors(t, d), before) {
+		t.Fatalf("a store that is down has written")
 	}
 }
 
@@ -69,6 +84,31 @@ func TestP10OnADeadDisk(t *testing.T) {
 		}
 		if id, e := c.on(s); id != 0 || e != room.ErrDead {
 			t.Fatalf("%v on a dead disk = %d, %d", c, id, e)
+		}
+		isDown(t, s, n)
+	}
+}
+
+func TestP10WithoutAFuseNothingDies(t *testing.T) {
+	for _, steps := range []int{-1, math.MinInt, math.MaxInt, 4 * len(everything())} {
+		d := newDisk(t, minSectors)
+		d.Fuse(steps)
+		s := open(t, d)
+		var n notes
+		for _, c := range everything() {
+			n = made(t, s, n, c)
+		}
+		alike(t, "no step is missing", s, n)
+	}
+}
+
+func TestP10ADownStoreHasWhatWasThereAheadOfIt(t *testing.T) {
+	calls := everything()
+	for i, c := range calls {
+		d, s, n := filled(t, minSectors, calls[:i]...)
+		d.Fuse(1)
+		if id, e := c.on(s); id != 0 || e != room.ErrDead {
+			t.Fatalf("%v with a fuse of 1 = %d, %d", c, id, e)
 		}
 		isDown(t, s, n)
 	}
@@ -102,25 +142,76 @@ func either(t *testing.T, what string, s *room.Store, before, after notes) notes
 	return before
 }
 
+// stays opens a disk again and again, and each time a new one too that has
+// just its sectors. It answers the last of the new ones.
+func stays(t *testing.T, what string, d *room.Disk, n notes) *room.Disk {
+	t.Helper()
+	twin := d
+	for _, keep := range [][]int{nil, {1, 1, 1}, {0, 1}} {
+		twin = diskOf(t, sectors(t, twin))
+		alike(t, what+": a new disk", open(t, twin), n)
+		alike(t, what+": opened again", open(t, d), n)
+		d.Crash(keep)
+		alike(t, what+": crashed again", open(t, d), n)
+	}
+	return twin
+}
+
+// cutOff cuts the last one of some calls off at each of its steps, with each
+// list of what the crash keeps.
+func cutOff(t *testing.T, calls ...call) {
+	t.Helper()
+	last := len(calls) - 1
+	_, _, before := filled(t, minSectors, calls[:last]...)
+	_, _, after := filled(t, minSectors, calls...)
+	for fuse, done := 0, false; !done; fuse++ {
+		for _, keep := range keeps() {
+			d, ok := crashed(t, calls, fuse, keep)
+			what := fmt.Sprint(calls[last], " fuse ", fuse, " keep ", keep)
+			is := either(t, what, open(t, d), before, after)
+			if ok {
+				alike(t, what+": acknowledged", open(t, d), after)
+				done = true
+			}
+			twin := stays(t, what, d, is)
+			goesOn(t, what, d, is)
+			goesOn(t, what+": a new disk", twin, is)
+		}
+	}
+}
+
 func TestP11AnyCrashAtAnyStep(t *testing.T) {
 	calls := everything()
 	for i := range calls {
-		_, _, before := filled(t, minSectors, calls[:i]...)
-		_, _, after := filled(t, minSectors, calls[:i+1]...)
-		for fuse, done := 0, false; !done; fuse++ {
-			for _, keep := range keeps() {
-				d, ok := crashed(t, calls[:i+1], fuse, keep)
-				what := fmt.Sprint(calls[i], " fuse ", fuse, " keep ", keep)
-				is := either(t, what, open(t, d), before, after)
-				if ok {
-					alike(t, what+": acknowledged", open(t, d), after)
-					done = true
-				}
-				d.Crash(nil)
-				alike(t, what+": opened again", open(t, d), is)
-				goesOn(t, what, d, is)
-			}
+		cutOff(t, calls[:i+1]...)
+	}
+}
+
+func TestP11ABodyOfAnyLengthIsWholeOrNotThere(t *testing.T) {
+	for length := range maxBody + 1 {
+		body := strings.Repeat("\x00", length/2) + strings.Repeat("\xff", length-length/2)
+		cutOff(t, put("ahead"), put(body, 0))
+		cutOff(t, put("ahead"), put(body, 0), forget(1))
+	}
+}
+
+func TestP11AFullRoomIsForgotten(t *testing.T) {
+	puts := slices.DeleteFunc(everything(), func(c call) bool { return c.id >= 0 })
+	for _, step := range []int{5, 11} { // mixed, falling
+		calls := slices.Clone(puts)
+		for i := range maxEvents {
+			calls = append(calls, forget((i+1)*step%maxEvents))
+			cutOff(t, calls...)
 		}
+		d, _, n := filled(t, minSectors, calls...)
+		d.Crash(nil)
+		for id := range maxEvents {
+			if parents, body, forgotten, e := open(t, d).Get(id); body != "" || !forgotten || e != room.OK {
+				t.Fatalf("Get(%d) of what is all forgotten = %v, %q, %v, %d", id, parents, body, forgotten, e)
+			}
+			n = made(t, open(t, d), n, forget(id))
+		}
+		made(t, open(t, d), n, put(""))
 	}
 }
 
@@ -236,4 +327,52 @@ func TestP11ManyFailuresTakeNoRoom(t *testing.T) {
 		n = made(t, open(t, d), n, c)
 	}
 	alike(t, "at the end", open(t, d), n)
+}
+
+// A disk that has what stores have written, but not lasting: the first call
+// that is acknowledged makes all of it lasting, or its own event would stand
+// on nothing.
+func TestP11AnAcknowledgedCallStandsOnWhatIsLasting(t *testing.T) {
+	written, _, before := filled(t, minSectors, everything()[:6]...)
+	for _, c := range []call{put("short", 0), put("a body of 20 bytes..", 2), forget(1), forget(3)} {
+		d := newDisk(t, minSectors)
+		for i, s := range sectors(t, written) {
+			answers(t, "Write", d.Write(i, s), room.OK)
+		}
+		n := made(t, open(t, d), before, c)
+		d.Crash(nil)
+		alike(t, c.String(), open(t, d), n)
+	}
+}
+
+// P2
+
+// history makes calls on a disk, with fuses and crashes, and tells the sectors
+// that each of its lives left.
+func history(t *testing.T, seed int64) [][]string {
+	t.Helper()
+	r := rand.New(rand.NewSource(seed))
+	d := newDisk(t, minSectors)
+	var left [][]string
+	for range 20 {
+		s := open(t, d)
+		d.Fuse(r.Intn(12) - 1)
+		for range 5 {
+			anyCall(r, s.Count()).on(s)
+		}
+		d.Crash([]int{r.Intn(2), r.Intn(2)})
+		left = append(left, sectors(t, d))
+	}
+	return left
+}
+
+func TestP2TheSameHistoryLeavesTheSameSectors(t *testing.T) {
+	for seed := range int64(100) {
+		one, two := history(t, seed), history(t, seed)
+		for i := range one {
+			if !slices.Equal(one[i], two[i]) {
+				t.Fatalf("seed %d: two disks differ behind crash %d", seed, i)
+			}
+		}
+	}
 }

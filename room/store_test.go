@@ -167,18 +167,34 @@ func workOut(t *testing.T, d *room.Disk) {
 		}
 		return
 	}
-	var n notes
-	for id := range s.Count() {
-		parents, body, forgotten, e := s.Get(id)
-		answers(t, "Get", e, room.OK)
-		n = append(n, told{parents, body, forgotten})
-	}
+	n := notesOf(t, s)
 	alike(t, "a foreign disk", s, n)
 	for _, c := range []call{put("left"), put("a body of 20 bytes..", 0), forget(0), forget(len(n))} {
 		n = made(t, s, n, c)
 	}
 	alike(t, "a foreign disk", s, n)
 	alike(t, "a foreign disk, opened again", open(t, d), n)
+	d.Fuse(1)
+	forget(1).on(s)
+	put("and more").on(s)
+	d.Crash([]int{1})
+	if s, e := room.Open(d); e != room.OK {
+		answers(t, "Open of a foreign disk that has crashed", e, room.ErrData)
+	} else {
+		alike(t, "a foreign disk that has crashed", s, notesOf(t, s))
+	}
+}
+
+// notesOf takes a store at its word.
+func notesOf(t *testing.T, s *room.Store) notes {
+	t.Helper()
+	var n notes
+	for id := range s.Count() {
+		parents, body, forgotten, e := s.Get(id)
+		answers(t, "Get", e, room.OK)
+		n = append(n, told{parents, body, forgotten})
+	}
+	return n
 }
 
 func TestP6OpenOfForeignDisks(t *testing.T) {
@@ -226,6 +242,26 @@ func TestP6OpenOfDisksWithSectorsThatAreNotTheirs(t *testing.T) {
 		r.Shuffle(len(all), func(i, j int) { all[i], all[j] = all[j], all[i] })
 		workOut(t, diskOf(t, all))
 		workOut(t, diskOf(t, slices.Concat(right[i:], right[:i])))
+	}
+}
+
+// Anybody may write to a disk that stores have written to, and not all of it
+// need be lasting when it crashes.
+func TestP6OpenOfDisksThatOthersWroteToBetweenCrashes(t *testing.T) {
+	for seed := range int64(300) {
+		r := rand.New(rand.NewSource(seed))
+		d, _, _ := filled(t, minSectors, everything()...)
+		known := sectors(t, d)
+		for range 10 {
+			var b [sectorBytes]byte
+			copy(b[:], known[r.Intn(2*maxEvents)])
+			b[r.Intn(sectorBytes)] = byte(r.Intn(1 + r.Intn(256)))
+			answers(t, "Write", d.Write(r.Intn(3*maxEvents), string(b[:])), room.OK)
+			if r.Intn(3) == 0 {
+				d.Crash([]int{r.Intn(3), r.Intn(3), r.Intn(3)})
+			}
+			workOut(t, d)
+		}
 	}
 }
 
